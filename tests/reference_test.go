@@ -1,0 +1,229 @@
+package tests
+
+import (
+	"math/big"
+
+	"loop.example/s01330/impl"
+)
+
+// What the document says of formats and of rounding, done in rational numbers and as near to its words as can be.
+
+const (
+	nan32 = uint64(0x7fc00000)
+	nan64 = uint64(0x7ff8000000000000)
+)
+
+var allFormats = []int{impl.F32, impl.F64}
+
+var allModes = []int{impl.REven, impl.RAway, impl.RZero, impl.RUp, impl.RDown}
+
+var noFormats = []int{-1 << 63, -2, -1, 2, 3, 64, 1<<63 - 1}
+
+var noModes = []int{-1 << 63, -2, -1, 5, 6, 64, 1<<63 - 1}
+
+type layout struct {
+	precision int
+	emin      int
+	emax      int
+	width     int
+}
+
+func layoutOf(f int) layout {
+	if f == impl.F32 {
+		return layout{precision: 24, emin: -126, emax: 127, width: 8}
+	}
+	return layout{precision: 53, emin: -1022, emax: 1023, width: 11}
+}
+
+func nanOf(f int) uint64 {
+	if f == impl.F32 {
+		return nan32
+	}
+	return nan64
+}
+
+func infinityOf(f int, sign int) uint64 {
+	return wordOf(f, sign, 1<<layoutOf(f).width-1, 0)
+}
+
+func wordOf(f int, sign int, exponent uint64, fraction uint64) uint64 {
+	l := layoutOf(f)
+	return uint64(sign)<<(l.precision-1+l.width) | exponent<<(l.precision-1) | fraction
+}
+
+func fieldsOf(f int, w uint64) (sign int, exponent uint64, fraction uint64) {
+	l := layoutOf(f)
+	sign = int(w >> (l.precision - 1 + l.width) & 1)
+	exponent = w >> (l.precision - 1) & (1<<l.width - 1)
+	fraction = w & (1<<(l.precision-1) - 1)
+	return sign, exponent, fraction
+}
+
+func turned(f int, w uint64) uint64 {
+	return w ^ wordOf(f, 1, 0, 0)
+}
+
+// scaled is x * 2^n.
+func scaled(x *big.Int, n int) *big.Rat {
+	if n >= 0 {
+		return new(big.Rat).SetInt(new(big.Int).Lsh(x, uint(n)))
+	}
+	return new(big.Rat).SetFrac(x, power(uint(-n)))
+}
+
+func powerOf2(n int) *big.Rat {
+	return scaled(big.NewInt(1), n)
+}
+
+// valueOf is the number that a finite word means.
+func valueOf(f int, w uint64) *big.Rat {
+	l := layoutOf(f)
+	sign, e, fraction := fieldsOf(f, w)
+	var x *big.Rat
+	if e == 0 {
+		x = scaled(bigWord(fraction), l.emin-l.precision+1)
+	} else {
+		x = scaled(bigWord(1<<(l.precision-1)+fraction), int(e)+l.emin-1-(l.precision-1))
+	}
+	if sign == 1 {
+		x.Neg(x)
+	}
+	return x
+}
+
+// exponentOf is the greatest n with 2^n at most x, for x above 0.
+func exponentOf(x *big.Rat) int {
+	n := x.Num().BitLen() - x.Denom().BitLen()
+	for powerOf2(n).Cmp(x) > 0 {
+		n--
+	}
+	for powerOf2(n+1).Cmp(x) <= 0 {
+		n++
+	}
+	return n
+}
+
+// taken is which of the two whole numbers next to x is taken, x at least 0 and standing for a negative one if negative.
+func taken(mode int, negative bool, x *big.Rat) *big.Int {
+	lesser := new(big.Int).Quo(x.Num(), x.Denom())
+	if x.IsInt() {
+		return lesser
+	}
+	greater := new(big.Int).Add(lesser, big.NewInt(1))
+	toLesser := new(big.Rat).Sub(x, new(big.Rat).SetInt(lesser))
+	toGreater := new(big.Rat).Sub(new(big.Rat).SetInt(greater), x)
+	nearer := toLesser.Cmp(toGreater)
+	switch {
+	case mode == impl.REven && nearer == 0:
+		if lesser.Bit(0) == 0 {
+			return lesser
+		}
+		return greater
+	case mode == impl.REven && nearer > 0, mode == impl.RAway && nearer >= 0:
+		return greater
+	case mode == impl.RUp && !negative, mode == impl.RDown && negative:
+		return greater
+	}
+	return lesser
+}
+
+func overflowed(f int, mode int, negative bool) impl.Result {
+	sign := 0
+	if negative {
+		sign = 1
+	}
+	w := infinityOf(f, sign)
+	switch {
+	case mode == impl.RZero, mode == impl.RUp && negative, mode == impl.RDown && !negative:
+		w--
+	}
+	return impl.Result{Bits: w, Flags: impl.FlagOverflow + impl.FlagInexact}
+}
+
+// rounded is x, which is not 0, rounded to a format in a way of rounding.
+func rounded(f int, mode int, x *big.Rat) impl.Result {
+	l := layoutOf(f)
+	negative := x.Sign() < 0
+	size := new(big.Rat).Abs(x)
+	highest := exponentOf(size)
+	e := max(highest, l.emin)
+	unit := e - l.precision + 1
+	count := taken(mode, negative, new(big.Rat).Mul(size, powerOf2(-unit)))
+	result := scaled(count, unit)
+	if result.Cmp(powerOf2(l.emax+1)) >= 0 {
+		return overflowed(f, mode, negative)
+	}
+	var flags int
+	if result.Cmp(size) != 0 {
+		flags = impl.FlagInexact
+		free := highest - l.precision + 1
+		unbounded := scaled(taken(mode, negative, new(big.Rat).Mul(size, powerOf2(-free))), free)
+		if unbounded.Cmp(powerOf2(l.emin)) < 0 {
+			flags += impl.FlagUnderflow
+		}
+	}
+	return impl.Result{Bits: encoded(f, negative, result), Flags: flags}
+}
+
+// encoded is the word of a number, at least 0 and below 2^(emax + 1), that the format has.
+func encoded(f int, negative bool, size *big.Rat) uint64 {
+	l := layoutOf(f)
+	sign := 0
+	if negative {
+		sign = 1
+	}
+	if size.Sign() == 0 {
+		return wordOf(f, sign, 0, 0)
+	}
+	e := exponentOf(size)
+	if e < l.emin {
+		count := new(big.Rat).Mul(size, powerOf2(l.precision-1-l.emin))
+		return wordOf(f, sign, 0, count.Num().Uint64())
+	}
+	count := new(big.Rat).Mul(size, powerOf2(l.precision-1-e))
+	return wordOf(f, sign, uint64(e-l.emin+1), count.Num().Uint64()-1<<(l.precision-1))
+}
+
+// edgeNumbers are finite words at which something turns, of both signs: zeros, the ends of the exponents, the ends of
+// the fractions within one.
+func edgeNumbers(f int) []uint64 {
+	l := layoutOf(f)
+	highest := uint64(1)<<l.width - 2
+	middle := highest / 2
+	half := uint64(1) << (l.precision - 2)
+	full := uint64(1)<<(l.precision-1) - 1
+	var out []uint64
+	for _, e := range []uint64{0, 1, 2, 3, middle - 1, middle, middle + 1, middle + uint64(l.precision), highest - 1, highest} {
+		for _, fraction := range []uint64{0, 1, 2, 3, half - 1, half, half + 1, full - 1, full} {
+			out = append(out, wordOf(f, 0, e, fraction), wordOf(f, 1, e, fraction))
+		}
+	}
+	return out
+}
+
+// edgeNaNs are quiet and signaling ones with either sign.
+func edgeNaNs(f int) []uint64 {
+	l := layoutOf(f)
+	quiet := uint64(1) << (l.precision - 2)
+	var out []uint64
+	for sign := range 2 {
+		for _, fraction := range []uint64{1, 2, quiet - 1, quiet, quiet + 1, 2*quiet - 1} {
+			out = append(out, infinityOf(f, sign)|fraction)
+		}
+	}
+	return out
+}
+
+// number is a finite word with any exponent, and one of three times with a fraction of few bits.
+func (m *mixed) number(f int) uint64 {
+	l := layoutOf(f)
+	exponent := m.next() % (1<<l.width - 1)
+	fraction := m.next() & (1<<(l.precision-1) - 1)
+	switch m.next() % 3 {
+	case 0:
+		fraction &= fraction << (m.next() % uint64(l.precision))
+	case 1:
+		exponent = uint64(l.emax) + m.next()%9 - 4
+	}
+	return wordOf(f, int(m.next()%2), exponent, fraction)
+}
