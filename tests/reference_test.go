@@ -227,3 +227,121 @@ func (m *mixed) number(f int) uint64 {
 	}
 	return wordOf(f, int(m.next()%2), exponent, fraction)
 }
+
+func signOf(f int, w uint64) int {
+	sign, _, _ := fieldsOf(f, w)
+	return sign
+}
+
+func isZero(f int, w uint64) bool {
+	_, e, fraction := fieldsOf(f, w)
+	return e == 0 && fraction == 0
+}
+
+func isInfinity(f int, w uint64) bool {
+	return w == infinityOf(f, 0) || w == infinityOf(f, 1)
+}
+
+func isNaN(f int, w uint64) bool {
+	_, e, fraction := fieldsOf(f, w)
+	return e == 1<<layoutOf(f).width-1 && fraction != 0
+}
+
+func isSignaling(f int, w uint64) bool {
+	_, _, fraction := fieldsOf(f, w)
+	return isNaN(f, w) && fraction < 1<<(layoutOf(f).precision-2)
+}
+
+func invalid(f int) impl.Result {
+	return impl.Result{Bits: nanOf(f), Flags: impl.FlagInvalid}
+}
+
+// ofNaNs is the answer if one of the words is a NaN.
+func ofNaNs(f int, ws ...uint64) (result impl.Result, some bool) {
+	result.Bits = nanOf(f)
+	for _, w := range ws {
+		some = some || isNaN(f, w)
+		if isSignaling(f, w) {
+			result.Flags = impl.FlagInvalid
+		}
+	}
+	return result, some
+}
+
+// zeroOfSum is the answer for a sum that is 0; same tells whether it is one of zeros with the same sign.
+func zeroOfSum(f int, mode int, same bool, sign int) impl.Result {
+	if !same {
+		sign = 0
+		if mode == impl.RDown {
+			sign = 1
+		}
+	}
+	return impl.Result{Bits: wordOf(f, sign, 0, 0)}
+}
+
+func sumByWords(f int, mode int, a uint64, b uint64) impl.Result {
+	if result, some := ofNaNs(f, a, b); some {
+		return result
+	}
+	switch {
+	case isInfinity(f, a) && isInfinity(f, b) && a != b:
+		return invalid(f)
+	case isInfinity(f, a):
+		return impl.Result{Bits: a}
+	case isInfinity(f, b):
+		return impl.Result{Bits: b}
+	}
+	x := new(big.Rat).Add(valueOf(f, a), valueOf(f, b))
+	if x.Sign() == 0 {
+		return zeroOfSum(f, mode, isZero(f, a) && a == b, signOf(f, a))
+	}
+	return rounded(f, mode, x)
+}
+
+func productByWords(f int, mode int, a uint64, b uint64) impl.Result {
+	if result, some := ofNaNs(f, a, b); some {
+		return result
+	}
+	sign := signOf(f, a) ^ signOf(f, b)
+	zero := isZero(f, a) || isZero(f, b)
+	infinite := isInfinity(f, a) || isInfinity(f, b)
+	switch {
+	case zero && infinite:
+		return invalid(f)
+	case infinite:
+		return impl.Result{Bits: infinityOf(f, sign)}
+	case zero:
+		return impl.Result{Bits: wordOf(f, sign, 0, 0)}
+	}
+	return rounded(f, mode, new(big.Rat).Mul(valueOf(f, a), valueOf(f, b)))
+}
+
+func fusedByWords(f int, mode int, a uint64, b uint64, c uint64) impl.Result {
+	if isInfinity(f, a) && isZero(f, b) || isZero(f, a) && isInfinity(f, b) {
+		return invalid(f)
+	}
+	if result, some := ofNaNs(f, a, b, c); some {
+		return result
+	}
+	sign := signOf(f, a) ^ signOf(f, b)
+	infinite := isInfinity(f, a) || isInfinity(f, b)
+	switch {
+	case infinite && isInfinity(f, c) && c != infinityOf(f, sign):
+		return invalid(f)
+	case infinite:
+		return impl.Result{Bits: infinityOf(f, sign)}
+	case isInfinity(f, c):
+		return impl.Result{Bits: c}
+	}
+	x := new(big.Rat).Mul(valueOf(f, a), valueOf(f, b))
+	x.Add(x, valueOf(f, c))
+	if x.Sign() == 0 {
+		return zeroOfSum(f, mode, sign == signOf(f, c), sign)
+	}
+	return rounded(f, mode, x)
+}
+
+// counted is the word of (-1)^sign * count * 2^exp, which the format must have.
+func counted(f int, sign int, count uint64, exp int) uint64 {
+	return encoded(f, sign == 1, scaled(bigWord(count), exp))
+}
