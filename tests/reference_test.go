@@ -345,3 +345,73 @@ func fusedByWords(f int, mode int, a uint64, b uint64, c uint64) impl.Result {
 func counted(f int, sign int, count uint64, exp int) uint64 {
 	return encoded(f, sign == 1, scaled(bigWord(count), exp))
 }
+
+func quotientByWords(f int, mode int, a uint64, b uint64) impl.Result {
+	if result, some := ofNaNs(f, a, b); some {
+		return result
+	}
+	sign := signOf(f, a) ^ signOf(f, b)
+	switch {
+	case isZero(f, a) && isZero(f, b), isInfinity(f, a) && isInfinity(f, b):
+		return invalid(f)
+	case isInfinity(f, a):
+		return impl.Result{Bits: infinityOf(f, sign)}
+	case isZero(f, a), isInfinity(f, b):
+		return impl.Result{Bits: wordOf(f, sign, 0, 0)}
+	case isZero(f, b):
+		return impl.Result{Bits: infinityOf(f, sign), Flags: impl.FlagDivide}
+	}
+	return rounded(f, mode, new(big.Rat).Quo(valueOf(f, a), valueOf(f, b)))
+}
+
+// rootOf is the root of x, or where there is no such rational number one so near to it that no number of a format and
+// no half between two of them lies at or between both.
+func rootOf(x *big.Rat) *big.Rat {
+	n := 2*64 - exponentOf(x)/2
+	y := new(big.Rat).Mul(x, powerOf2(2*n))
+	whole := new(big.Int).Quo(y.Num(), y.Denom())
+	root := new(big.Int).Sqrt(whole)
+	z := new(big.Rat).SetInt(root)
+	if new(big.Rat).Mul(z, z).Cmp(y) != 0 {
+		z.Add(z, big.NewRat(1, 2))
+	}
+	return z.Mul(z, powerOf2(-n))
+}
+
+func rootByWords(f int, mode int, a uint64) impl.Result {
+	if result, some := ofNaNs(f, a); some {
+		return result
+	}
+	switch {
+	case isZero(f, a):
+		return impl.Result{Bits: a}
+	case signOf(f, a) == 1:
+		return invalid(f)
+	case isInfinity(f, a):
+		return impl.Result{Bits: a}
+	}
+	return rounded(f, mode, rootOf(valueOf(f, a)))
+}
+
+func remainderByWords(f int, a uint64, b uint64) impl.Result {
+	if result, some := ofNaNs(f, a, b); some {
+		return result
+	}
+	switch {
+	case isInfinity(f, a), isZero(f, b):
+		return invalid(f)
+	case isInfinity(f, b), isZero(f, a):
+		return impl.Result{Bits: a}
+	}
+	x, y := valueOf(f, a), valueOf(f, b)
+	q := new(big.Rat).Quo(x, y)
+	n := taken(impl.REven, q.Sign() < 0, new(big.Rat).Abs(q))
+	if q.Sign() < 0 {
+		n.Neg(n)
+	}
+	rest := x.Sub(x, y.Mul(y, new(big.Rat).SetInt(n)))
+	if rest.Sign() == 0 {
+		return impl.Result{Bits: wordOf(f, signOf(f, a), 0, 0)}
+	}
+	return impl.Result{Bits: encoded(f, rest.Sign() < 0, rest.Abs(rest))}
+}
