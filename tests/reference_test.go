@@ -6,7 +6,8 @@ import (
 	"loop.example/s01330/impl"
 )
 
-// What the document says of formats and of rounding, done in rational numbers and as near to its words as can be.
+// What the document says of formats, of rounding and of its functions, done in rational numbers and as near to its
+// words as can be.
 
 const (
 	nan32 = uint64(0x7fc00000)
@@ -20,6 +21,10 @@ var allModes = []int{impl.REven, impl.RAway, impl.RZero, impl.RUp, impl.RDown}
 var noFormats = []int{-1 << 63, -2, -1, 2, 3, 64, 1<<63 - 1}
 
 var noModes = []int{-1 << 63, -2, -1, 5, 6, 64, 1<<63 - 1}
+
+var allKinds = []int{impl.I32, impl.I64, impl.U32, impl.U64}
+
+var noKinds = []int{-1 << 63, -2, -1, 4, 5, 64, 1<<63 - 1}
 
 type layout struct {
 	precision int
@@ -414,4 +419,141 @@ func remainderByWords(f int, a uint64, b uint64) impl.Result {
 		return impl.Result{Bits: wordOf(f, signOf(f, a), 0, 0)}
 	}
 	return impl.Result{Bits: encoded(f, rest.Sign() < 0, rest.Abs(rest))}
+}
+
+// endsOf are the least and the greatest integer of a kind.
+func endsOf(kind int) (*big.Int, *big.Int) {
+	one := big.NewInt(1)
+	switch kind {
+	case impl.I32:
+		return new(big.Int).Neg(power(31)), new(big.Int).Sub(power(31), one)
+	case impl.I64:
+		return new(big.Int).Neg(power(63)), new(big.Int).Sub(power(63), one)
+	case impl.U32:
+		return new(big.Int), new(big.Int).Sub(power(32), one)
+	}
+	return new(big.Int), new(big.Int).Sub(power(64), one)
+}
+
+func isOfKind(kind int, x *big.Int) bool {
+	least, greatest := endsOf(kind)
+	return x.Cmp(least) >= 0 && x.Cmp(greatest) <= 0
+}
+
+// integerOf is the integer that a word stands for: its number or, if it is negative, that less 2^64.
+func integerOf(kind int, w uint64) (x *big.Int, fits bool) {
+	x = bigWord(w)
+	if isOfKind(kind, x) {
+		return x, true
+	}
+	x.Sub(x, power(64))
+	return x, x.Sign() < 0 && isOfKind(kind, x)
+}
+
+func wordOfInteger(x *big.Int) uint64 {
+	return wideOf(x).Lo
+}
+
+func fromIntByWords(f int, mode int, kind int, w uint64) impl.Result {
+	x, fits := integerOf(kind, w)
+	switch {
+	case !fits:
+		return invalid(f)
+	case x.Sign() == 0:
+		return impl.Result{Bits: wordOf(f, 0, 0, 0)}
+	}
+	return rounded(f, mode, new(big.Rat).SetInt(x))
+}
+
+// wholeByWords is a number rounded to a whole one, and whether that is another number.
+func wholeByWords(f int, mode int, a uint64) (*big.Int, bool) {
+	x := valueOf(f, a)
+	n := taken(mode, x.Sign() < 0, new(big.Rat).Abs(x))
+	if x.Sign() < 0 {
+		n.Neg(n)
+	}
+	return n, x.Cmp(new(big.Rat).SetInt(n)) != 0
+}
+
+func toIntByWords(f int, mode int, kind int, a uint64) impl.Result {
+	least, greatest := endsOf(kind)
+	switch {
+	case isNaN(f, a), a == infinityOf(f, 0):
+		return impl.Result{Bits: wordOfInteger(greatest), Flags: impl.FlagInvalid}
+	case a == infinityOf(f, 1):
+		return impl.Result{Bits: wordOfInteger(least), Flags: impl.FlagInvalid}
+	}
+	n, other := wholeByWords(f, mode, a)
+	switch {
+	case n.Cmp(greatest) > 0:
+		return impl.Result{Bits: wordOfInteger(greatest), Flags: impl.FlagInvalid}
+	case n.Cmp(least) < 0:
+		return impl.Result{Bits: wordOfInteger(least), Flags: impl.FlagInvalid}
+	case other:
+		return impl.Result{Bits: wordOfInteger(n), Flags: impl.FlagInexact}
+	}
+	return impl.Result{Bits: wordOfInteger(n)}
+}
+
+func convertByWords(from int, to int, mode int, a uint64) impl.Result {
+	switch {
+	case isSignaling(from, a):
+		return invalid(to)
+	case isNaN(from, a):
+		return impl.Result{Bits: nanOf(to)}
+	case isInfinity(from, a):
+		return impl.Result{Bits: infinityOf(to, signOf(from, a))}
+	case isZero(from, a):
+		return impl.Result{Bits: wordOf(to, signOf(from, a), 0, 0)}
+	}
+	return rounded(to, mode, valueOf(from, a))
+}
+
+func roundIntByWords(f int, mode int, a uint64, exact bool) impl.Result {
+	if result, some := ofNaNs(f, a); some {
+		return result
+	}
+	if isInfinity(f, a) {
+		return impl.Result{Bits: a}
+	}
+	n, other := wholeByWords(f, mode, a)
+	result := impl.Result{Bits: encoded(f, signOf(f, a) == 1, new(big.Rat).SetInt(n.Abs(n)))}
+	if exact && other {
+		result.Flags = impl.FlagInexact
+	}
+	return result
+}
+
+// heightOf is the number of a word, and for infinities one beyond all others.
+func heightOf(f int, w uint64) *big.Rat {
+	if isInfinity(f, w) {
+		x := powerOf2(layoutOf(f).emax + 1)
+		if signOf(f, w) == 1 {
+			x.Neg(x)
+		}
+		return x
+	}
+	return valueOf(f, w)
+}
+
+func compareByWords(f int, a uint64, b uint64, signaling bool) (int, int) {
+	if result, some := ofNaNs(f, a, b); some {
+		if signaling {
+			return 2, impl.FlagInvalid
+		}
+		return 2, result.Flags
+	}
+	return heightOf(f, a).Cmp(heightOf(f, b)), 0
+}
+
+// extremesByWords are the lesser and the greater one.
+func extremesByWords(f int, a uint64, b uint64) (impl.Result, impl.Result) {
+	if result, some := ofNaNs(f, a, b); some {
+		return result, result
+	}
+	order := heightOf(f, a).Cmp(heightOf(f, b))
+	if order > 0 || order == 0 && signOf(f, a) < signOf(f, b) {
+		a, b = b, a
+	}
+	return impl.Result{Bits: a}, impl.Result{Bits: b}
 }
